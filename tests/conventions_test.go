@@ -1,0 +1,168 @@
+package tests
+
+import (
+	"math"
+	"slices"
+	"strings"
+	"testing"
+
+	"loop.example/g03219/impl"
+)
+
+// oddInts are ints near the edges of what functions of words may meet.
+var oddInts = []int{
+	math.MinInt, math.MinInt + 1, -1 << 32, -65536, -17, -16, -2, -1, 0, 1, 2, 3, 4, 8, 14, 15, 16, 17, 31, 63, 64,
+	255, 32768, 65535, 65536, 1 << 32, 1 << 62, math.MaxInt - 1, math.MaxInt,
+}
+
+// oddTexts returns texts of arbitrary bytes; a fixed recurrence makes the longer ones, so that each run has the same.
+func oddTexts() []string {
+	l := []string{"", " ", "\n", "\x00", "\xff", "\xc3\x28", "\xed\xa0\x80", "a\x80b", strings.Repeat(" \n", 50), strings.Repeat("-", 300)}
+	state := uint32(1)
+	for n := range 400 {
+		text := make([]byte, n%23)
+		for i := range text {
+			state = state*1664525 + 1013904223
+			text[i] = byte(state >> 24)
+			if n%2 == 0 {
+				text[i] = " \n-0129az"[int(text[i])%9]
+			}
+		}
+		l = append(l, string(text))
+	}
+	return l
+}
+
+// mustNot fails the test if f panics.
+func mustNot(t *testing.T, label string, f func()) {
+	t.Helper()
+	defer func() {
+		if r := recover(); r != nil {
+			t.Errorf("%s panics: %v", label, r)
+		}
+	}()
+	f()
+}
+
+func TestP11NoPanicOfWords(t *testing.T) {
+	for _, a := range oddInts {
+		for _, b := range oddInts {
+			mustNot(t, "a function of two ints", func() {
+				impl.WordOk(a, b)
+				impl.WordOf(a, b)
+				impl.SignedOf(a, b)
+				impl.ResultWidth(a, b)
+				impl.OpName(a)
+				impl.FormatInts([]int{a, b})
+			})
+			for _, c := range oddInts {
+				mustNot(t, "a function of three ints", func() {
+					impl.ApplyUnary(a, b, c)
+					impl.WidenWord(a, b, c, false)
+					impl.WidenWord(a, b, c, true)
+				})
+				for _, d := range oddInts {
+					mustNot(t, "a function of four ints", func() {
+						impl.ApplyBinary(a, b, c, d)
+						impl.CutWord(a, b, c, d)
+						impl.JoinWords(a, b, c, d)
+					})
+				}
+			}
+		}
+	}
+}
+
+// TestP11TextsAgree checks what functions of texts have to do with each other, for texts of arbitrary bytes.
+func TestP11TextsAgree(t *testing.T) {
+	for _, s := range oddTexts() {
+		mustNot(t, "a function of texts", func() {
+			impl.IsName(s)
+			impl.OpOf(s)
+			if n, ok := impl.ParseInt(s); ok && impl.FormatInt(n) != s || !ok && n != 0 {
+				t.Errorf("ParseInt(%q) = %d, %v", s, n, ok)
+			}
+			if l, ok := impl.ParseInts(s); ok && impl.FormatInts(l) != s || !ok && len(l) != 0 {
+				t.Errorf("ParseInts(%q) = %v, %v", s, l, ok)
+			}
+			words := impl.Words(s)
+			if slices.Contains(words, "") || strings.Contains(strings.Join(words, ""), " ") || strings.Join(words, "") != strings.ReplaceAll(s, " ", "") {
+				t.Errorf("Words(%q) = %q", s, words)
+			}
+			whole := s
+			if s != "" && s[len(s)-1] != '\n' {
+				whole += "\n"
+			}
+			back := ""
+			for _, line := range impl.SplitLines(s) {
+				back += line + "\n"
+			}
+			if back != whole {
+				t.Errorf("SplitLines(%q) = %q", s, impl.SplitLines(s))
+			}
+		})
+	}
+}
+
+func TestP11NilAndEmpty(t *testing.T) {
+	if impl.Join(nil, "x") != impl.Join([]string{}, "x") || impl.FormatInts(nil) != impl.FormatInts([]int{}) {
+		t.Error("a nil slice and an empty slice differ")
+	}
+	if l, ok := impl.ParseInts(""); len(l) != 0 || !ok {
+		t.Errorf("ParseInts of the empty string = %v, %v", l, ok)
+	}
+}
+
+func TestP11ArgumentsUnchanged(t *testing.T) {
+	ints := []int{3, 1, 2, 70, 80}
+	if got := impl.FormatInts(ints[:3]); got != "3 1 2" {
+		t.Errorf("FormatInts of three integers with others behind them = %q", got)
+	}
+	if !slices.Equal(ints, []int{3, 1, 2, 70, 80}) {
+		t.Errorf("FormatInts leaves %v", ints)
+	}
+	texts := []string{"b", "a", "c", "y", "z"}
+	if got := impl.Join(texts[:3], "-"); got != "b-a-c" {
+		t.Errorf("Join of three texts with others behind them = %q", got)
+	}
+	if !slices.Equal(texts, []string{"b", "a", "c", "y", "z"}) {
+		t.Errorf("Join leaves %q", texts)
+	}
+}
+
+// spoil overwrites a slice and the spare capacity behind it.
+func spoil[T any](l []T, with T) {
+	l = l[:cap(l)]
+	for i := range l {
+		l[i] = with
+	}
+}
+
+func TestP11ResultsAreNew(t *testing.T) {
+	first, _ := impl.ParseInts("1 2 3")
+	second, _ := impl.ParseInts("1 2 3")
+	spoil(first, 99)
+	third, _ := impl.ParseInts("1 2 3")
+	if want := []int{1, 2, 3}; !slices.Equal(second, want) || !slices.Equal(third, want) {
+		t.Errorf("a changed result of ParseInts changes others: %v, %v", second, third)
+	}
+	splits := []func(string) []string{impl.Words, impl.SplitLines}
+	for i, s := range []string{"a b c", "a\nb\nc\n"} {
+		one, two := splits[i](s), splits[i](s)
+		spoil(one, "spoilt")
+		three := splits[i](s)
+		if want := []string{"a", "b", "c"}; !slices.Equal(two, want) || !slices.Equal(three, want) {
+			t.Errorf("a changed result for %q changes others: %q, %q", s, two, three)
+		}
+	}
+}
+
+func TestP11SameAnswerTwice(t *testing.T) {
+	for range 3 {
+		if impl.OpName(impl.OpSar) != "sar" || impl.OpOf("sar") != impl.OpSar || impl.ApplyBinary(impl.OpSub, 4, 3, 5) != 14 {
+			t.Fatal("an answer depends on the calls before it")
+		}
+		impl.ApplyBinary(impl.OpAdd, 99, 1, 1)
+		impl.OpOf("none")
+	}
+}
