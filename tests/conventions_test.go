@@ -33,6 +33,18 @@ func oddTexts() []string {
 	return l
 }
 
+// almostTexts returns parts of a text, and what it becomes if a byte goes, comes twice, or another one comes before, behind or in place of it.
+func almostTexts(text, bytes string) []string {
+	var l []string
+	for i := range text {
+		l = append(l, text[:i], text[i:], text[:i]+text[i+1:], text[:i+1]+text[i:])
+		for j := range bytes {
+			l = append(l, text[:i]+bytes[j:j+1]+text[i:], text[:i]+bytes[j:j+1]+text[i+1:], text+bytes[j:j+1])
+		}
+	}
+	return l
+}
+
 // mustNot fails the test if f panics.
 func mustNot(t *testing.T, label string, f func()) {
 	t.Helper()
