@@ -1,6 +1,7 @@
 package tests
 
 import (
+	"math"
 	"slices"
 	"strconv"
 	"strings"
@@ -388,6 +389,8 @@ func badLists(w, n int) [][]int {
 	}
 	return l
 }
+
+var badFuels = []int{-1, -2, 401, 402, 1 << 32, math.MinInt, math.MaxInt}
 
 // badStates are states that are not valid for a program, each for one reason only.
 func badStates(p impl.Program) []impl.State {

@@ -1,7 +1,6 @@
 package tests
 
 import (
-	"math"
 	"slices"
 	"strconv"
 	"testing"
@@ -430,7 +429,7 @@ func TestP1RunProgramInvalid(t *testing.T) {
 		}
 	}
 	p := readProgram(t, "3 2 1|in r0|halt")
-	for _, fuel := range []int{-1, -2, 401, 402, 1 << 32, math.MinInt, math.MaxInt} {
+	for _, fuel := range badFuels {
 		mustHaveNoRun(p, []int{1}, fuel)
 	}
 	for _, in := range badLists(3, 1) {
