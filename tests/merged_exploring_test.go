@@ -1,7 +1,6 @@
 package tests
 
 import (
-	"math"
 	"slices"
 	"strings"
 	"testing"
@@ -111,11 +110,15 @@ func mustMergeAs(t *testing.T, p impl.Program, fuel int) int {
 
 // TestP8ExploreMergedOfManyPaths has as many open paths or ends on the way as there may be, and one more.
 func TestP8ExploreMergedOfManyPaths(t *testing.T) {
-	// Each path has another term in r1, until they all have 0 there.
-	levels := func(n int) string {
+	// Each path has another term in r1, until they all have 0 there; one more may wait at the end.
+	levels := func(n, waiting int) string {
+		first := 8 + waiting
 		text := "2 1 2|in r0|in r1" + doubled("r1", 6)
+		if waiting == 1 {
+			text += "|zero r1 " + textOfInts([]int{first + 2*n + 1})
+		}
 		for k, op := range []string{"add", "sub", "mul", "and", "or", "xor", "shl"}[:n] {
-			text += "|zero r0 " + textOfInts([]int{10 + 2*k}) + "|" + op + " r1 r0"
+			text += "|zero r0 " + textOfInts([]int{first + 2*k + 2}) + "|" + op + " r1 r0"
 		}
 		return text + "|set r1 0|halt"
 	}
@@ -127,7 +130,7 @@ func TestP8ExploreMergedOfManyPaths(t *testing.T) {
 		{"forks whose paths cannot be merged", "2 1 2|" + bigWord + zeros(17, 5), 400, 32}, {"as many open paths as there may be", "2 1 2|" + bigWord + zeros(17, 6), 400, 64}, {"the same, before they are ends", "2 1 2|" + bigWord + zeros(17, 7), 80, 64}, {"one open path more", "2 1 2|" + bigWord + zeros(17, 7), 81, -1}, {"many open paths more", "2 1 2|" + bigWord + zeros(17, 7), 400, -1},
 		{"ends and open paths that are left", "2 1 2|" + bigWord + strings.Repeat("|check r0", 10) + zeros(27, 6), 80, 64}, {"one open path more that is left", "2 1 2|" + bigWord + strings.Repeat("|check r0", 10) + zeros(27, 6), 81, -1}, {"ends before many open paths", "2 1 2|" + bigWord + strings.Repeat("|check r0", 10) + zeros(27, 6), 90, -1}, {"ends before open paths that become ends", "2 1 2|" + bigWord + strings.Repeat("|check r0", 10) + zeros(27, 6), 400, -1},
 		{"as many ends as there may be, with the open path", loops, 128, 0}, {"one end more, with the open path", loops, 129, -1}, {"one end more", loops, 131, -1}, {"many ends more", loops, 400, -1},
-		{"open paths that are merged later", levels(6), 400, 0}, {"more open paths than there may be, which would be merged later", levels(7), 400, -1},
+		{"open paths that are merged later", levels(6, 0), 400, 0}, {"one open path more, which would be merged later", levels(6, 1), 400, -1}, {"the same with less open paths", levels(5, 1), 400, 0}, {"many open paths more", levels(7, 0), 400, -1},
 	} {
 		p := readProgram(t, c.program)
 		got := mustMergeAs(t, p, c.fuel)
@@ -135,7 +138,7 @@ func TestP8ExploreMergedOfManyPaths(t *testing.T) {
 			t.Errorf("%s: ExploreMerged of %d rounds has %d ends, want %d", c.name, c.fuel, got, c.want)
 		}
 	}
-	if l, ok := slowExploreMerged(readProgram(t, levels(7)), 400, 1000); !ok || len(l) > 64 {
+	if l, ok := slowExploreMerged(readProgram(t, levels(6, 1)), 400, 65); !ok || len(l) > 64 {
 		t.Errorf("there would be %d ends, %v", len(l), ok)
 	}
 }
@@ -210,29 +213,11 @@ func TestP8MergedEndsDivideTests(t *testing.T) {
 }
 
 func TestP8ExploreMergedInvalid(t *testing.T) {
-	mustFail := func(p impl.Program, fuel, most int) {
-		t.Helper()
-		if got, ok := impl.ExploreMerged(p, fuel, most); ok || len(got) != 0 {
-			t.Errorf("ExploreMerged(%.300s, %d, %d) = %s, %v", dumpProgram(p), fuel, most, textOfPaths(got), ok)
-		}
-	}
+	checkInvalidExploring(t, "ExploreMerged", impl.ExploreMerged)
 	p := readProgram(t, "3 2 1|in r0|halt")
-	for _, fuel := range badFuels {
-		mustFail(p, fuel, 8)
-	}
-	for _, most := range badMosts {
-		mustFail(p, 5, most)
-		mustFail(p, 0, most)
-	}
-	for _, bad := range badPrograms() {
-		mustFail(bad, 5, 8)
-		mustFail(bad, 0, 8)
-	}
 	for _, most := range []int{1, 64} {
 		if got, ok := impl.ExploreMerged(p, 400, most); !ok || endsOf(got) != " halted" {
 			t.Errorf("ExploreMerged with %d ends = %s, %v", most, endsOf(got), ok)
 		}
 	}
 }
-
-var badMosts = []int{0, -1, 65, 66, 1 << 32, math.MinInt, math.MaxInt}

@@ -1,6 +1,7 @@
 package tests
 
 import (
+	"math"
 	"slices"
 	"strconv"
 	"testing"
@@ -427,14 +428,6 @@ func (m *maker) relatives(p impl.Program) (impl.Path, impl.Path) {
 	return a, b
 }
 
-// textOfResult writes paths, and whether there are any.
-func textOfResult(l []impl.Path, ok bool) string {
-	return textOfPaths(l) + " " + strconv.FormatBool(ok)
-}
-
-// noPaths is the text of a call that fails.
-const noPaths = " false"
-
 // callArgs makes a path at an InsCall, if the program has one, and a summary for it.
 func (m *maker) callArgs(p impl.Program) (impl.Path, []impl.Path) {
 	s := m.path(p)
@@ -506,4 +499,32 @@ func readPaths(t *testing.T, texts ...string) []impl.Path {
 		l = append(l, readPath(t, text))
 	}
 	return l
+}
+
+var badMosts = []int{0, -1, 65, 66, 1 << 32, math.MinInt, math.MaxInt}
+
+// checkInvalidExploring calls a function that explores as Explore does with each argument that is not valid.
+func checkInvalidExploring(t *testing.T, name string, explore func(p impl.Program, fuel, most int) ([]impl.Path, bool)) {
+	t.Helper()
+	mustFail := func(p impl.Program, fuel, most int) {
+		t.Helper()
+		if got, ok := explore(p, fuel, most); ok || len(got) != 0 {
+			t.Errorf("%s(%.300s, %d, %d) = %s, %v", name, dumpProgram(p), fuel, most, textOfPaths(got), ok)
+		}
+	}
+	p := readProgram(t, "3 2 1|ret|halt")
+	for _, fuel := range badFuels {
+		mustFail(p, fuel, 8)
+	}
+	for _, most := range badMosts {
+		mustFail(p, 5, most)
+		mustFail(p, 0, most)
+	}
+	for _, bad := range badPrograms() {
+		mustFail(bad, 5, 8)
+		mustFail(bad, 0, 8)
+	}
+	if got, ok := explore(p, 5, 8); !ok || len(got) != 1 {
+		t.Errorf("%s = %s, %v", name, textOfPaths(got), ok)
+	}
 }

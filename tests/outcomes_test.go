@@ -9,7 +9,7 @@ import (
 	"loop.example/g03219/impl"
 )
 
-// An outcomePath is the text of a path with some outputs, a code and conditions.
+// outcomePath returns the text of a path with some outputs, a code and conditions.
 func outcomePath(out, code, cond string) string {
 	return pathWith("1|3:0, 3:0, 3:0, 3:0|3:0, 3:0||1||0|9||", outPart, out, codePart, code, condPart, cond)
 }

@@ -9,7 +9,7 @@ import (
 	"loop.example/g03219/impl"
 )
 
-// A unknown3 is the beginning of the text of a path with 3 bits and two cells: its registers and cells.
+// unknown3 is the part of a path's text that has its registers and cells, for words of 3 bits and two cells.
 const unknown3 = "|r0:3, r1:3, r2:3, r3:3|m0:3, m1:3|"
 
 func TestP8SummaryOf(t *testing.T) {
@@ -106,20 +106,12 @@ func TestP8SummaryOfAny(t *testing.T) {
 }
 
 func TestP8SummaryOfInvalid(t *testing.T) {
+	checkInvalidExploring(t, "SummaryOf", func(p impl.Program, fuel, most int) ([]impl.Path, bool) { return impl.SummaryOf(p, 0, fuel, most) })
 	p := readProgram(t, "3 2 1|ret|halt")
-	for _, fuel := range badFuels {
-		mustNotSum(t, p, 0, fuel, 8)
-	}
-	for _, most := range badMosts {
-		mustNotSum(t, p, 0, 5, most)
-		mustNotSum(t, p, 0, 0, most)
-	}
 	for _, entry := range []int{-1, 3, 4, 40, 1 << 32, math.MinInt, math.MaxInt} {
 		mustNotSum(t, p, entry, 5, 8)
 	}
 	for _, bad := range badPrograms() {
-		mustNotSum(t, bad, 0, 5, 8)
-		mustNotSum(t, bad, 0, 0, 8)
 		mustNotSum(t, bad, 2, 5, 8)
 	}
 }
@@ -227,9 +219,7 @@ func TestP8ApplySummaryFails(t *testing.T) {
 		mustNotApply(t, p, s, e, readPath(t, pathWith(sameElement, condPart, "1:0", turnsPart, "1")))
 	}
 	// A program whose last place has no instruction.
-	if q := readProgram(t, "3 2 1|call 0"); true {
-		mustNotApply(t, q, readPath(t, pathWith(callPath, stackPart, "")), readPath(t, pathWith(sameElement, pcPart, "0")))
-	}
+	mustNotApply(t, readProgram(t, "3 2 1|call 0"), readPath(t, pathWith(callPath, stackPart, "")), readPath(t, pathWith(sameElement, pcPart, "0")))
 }
 
 // TestP8ApplySummaryOfBigTerms has terms with just enough room before they are made simpler, and of one node more.
@@ -418,8 +408,8 @@ func TestP8ApplySummaryInvalid(t *testing.T) {
 	}
 }
 
-func TestP8SummedTextsAreRead(t *testing.T) {
-	// The constants of this file are what they say.
+// TestP8SummaryTexts checks the constants of this file.
+func TestP8SummaryTexts(t *testing.T) {
 	p := readProgram(t, callProgram)
 	for _, text := range []string{callPath, behindCall, sameElement} {
 		if s := readPath(t, text); textOfPath(s) != text || !impl.PathOk(p, s) || strings.Count(text, "|") != 9 {

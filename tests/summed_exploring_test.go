@@ -167,22 +167,5 @@ func TestP8SummedEndsAreRuns(t *testing.T) {
 }
 
 func TestP8ExploreSummedInvalid(t *testing.T) {
-	mustFail := func(p impl.Program, fuel, most int) {
-		t.Helper()
-		if got, ok := impl.ExploreSummed(p, fuel, most); ok || len(got) != 0 {
-			t.Errorf("ExploreSummed(%.300s, %d, %d) = %s, %v", dumpProgram(p), fuel, most, textOfPaths(got), ok)
-		}
-	}
-	p := readProgram(t, "3 2 1|call 2|halt|ret")
-	for _, fuel := range badFuels {
-		mustFail(p, fuel, 8)
-	}
-	for _, most := range badMosts {
-		mustFail(p, 5, most)
-		mustFail(p, 0, most)
-	}
-	for _, bad := range badPrograms() {
-		mustFail(bad, 5, 8)
-		mustFail(bad, 0, 8)
-	}
+	checkInvalidExploring(t, "ExploreSummed", impl.ExploreSummed)
 }
