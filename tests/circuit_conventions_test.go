@@ -20,12 +20,6 @@ type circuitArgs struct {
 	limit   int
 }
 
-// A circuitUse is a call of a function of circuits: it returns the memory of the result, and the result as a text.
-type circuitUse struct {
-	name string
-	call func(x circuitArgs) ([]region, string)
-}
-
 func literalUse(c impl.Circuit, lit int, ok bool) ([]region, string) {
 	return regionOf(c.Gates), textOfCircuit(c) + " " + strconv.Itoa(lit) + strconv.FormatBool(ok)
 }
@@ -38,8 +32,8 @@ func solveUse(code int, l []impl.Value) ([]region, string) {
 	return regionOf(l), strconv.Itoa(code) + textOfValues(l)
 }
 
-func circuitUses() []circuitUse {
-	return []circuitUse{
+func circuitUses() []use[circuitArgs] {
+	return []use[circuitArgs]{
 		{"CircuitOk", func(x circuitArgs) ([]region, string) { return nil, strconv.FormatBool(impl.CircuitOk(x.c)) }},
 		{"AndOf", func(x circuitArgs) ([]region, string) { return literalUse(impl.AndOf(x.c, x.x, x.y)) }},
 		{"AndOf of 1", func(x circuitArgs) ([]region, string) { return literalUse(impl.AndOf(x.c, 1, x.y)) }},
@@ -108,23 +102,8 @@ func dumpCircuitArgs(x circuitArgs) string {
 	return strings.Join([]string{strconv.Itoa(len(x.c.Gates)), textOfCircuit(whole), dumpInts(x.a), dumpInts(x.b), textOfModel(x.in[:cap(x.in)]), dump(x.u), dump(x.v)}, "; ")
 }
 
-// TestP11ArgumentsOfCircuitsUnchanged checks also that the results are the same for the second time, and with other things in spare capacity.
 func TestP11ArgumentsOfCircuitsUnchanged(t *testing.T) {
-	for _, plain := range someCircuitArgs(500) {
-		x := roomyCircuitArgs(plain)
-		before := dumpCircuitArgs(x)
-		for _, use := range circuitUses() {
-			_, first := use.call(x)
-			_, second := use.call(x)
-			_, third := use.call(plain)
-			if after := dumpCircuitArgs(x); after != before {
-				t.Fatalf("%s changes an argument: %s becomes %s", use.name, before, after)
-			}
-			if first != second || first != third {
-				t.Errorf("%s gives %s, %s and %s", use.name, first, second, third)
-			}
-		}
-	}
+	checkUnchanged(t, circuitUses(), someCircuitArgs(500), roomyCircuitArgs, dumpCircuitArgs)
 }
 
 func TestP11CircuitsAreNew(t *testing.T) {

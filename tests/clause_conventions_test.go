@@ -78,18 +78,12 @@ type clauseArgs struct {
 	limit int
 }
 
-// A clauseUse is a call of a function of clauses: it returns the memory of the result, and the result as a text.
-type clauseUse struct {
-	name string
-	call func(x clauseArgs) ([]region, string)
-}
-
 func listUse(l []int, ok bool) ([]region, string) {
 	return regionOf(l), textOfInts(l) + " " + strconv.FormatBool(ok)
 }
 
-func clauseUses() []clauseUse {
-	return []clauseUse{
+func clauseUses() []use[clauseArgs] {
+	return []use[clauseArgs]{
 		{"FormulaOk", func(x clauseArgs) ([]region, string) { return nil, strconv.FormatBool(impl.FormulaOk(x.f)) }},
 		{"MakeClause", func(x clauseArgs) ([]region, string) { return listUse(impl.MakeClause(x.a)) }},
 		{"EvalFormula", func(x clauseArgs) ([]region, string) { return nil, strconv.FormatBool(impl.EvalFormula(x.f, x.m)) }},
@@ -156,23 +150,8 @@ func dumpArgs(x clauseArgs) string {
 	return strings.Join([]string{dumpFormula(x.f), dumpInts(x.a), dumpInts(x.b), textOfModel(x.m[:cap(x.m)]), dumpProof(x.p)}, "; ")
 }
 
-// TestP11ArgumentsOfClausesUnchanged checks also that the results are the same for the second time, and with other numbers in spare capacity.
 func TestP11ArgumentsOfClausesUnchanged(t *testing.T) {
-	for _, plain := range someArgs(400) {
-		x := roomyArgs(plain)
-		before := dumpArgs(x)
-		for _, use := range clauseUses() {
-			_, first := use.call(x)
-			_, second := use.call(x)
-			_, third := use.call(plain)
-			if after := dumpArgs(x); after != before {
-				t.Fatalf("%s changes an argument: %s becomes %s", use.name, before, after)
-			}
-			if first != second || first != third {
-				t.Errorf("%s gives %s, %s and %s", use.name, first, second, third)
-			}
-		}
-	}
+	checkUnchanged(t, clauseUses(), someArgs(400), roomyArgs, dumpArgs)
 }
 
 func TestP11ClausesAreNew(t *testing.T) {

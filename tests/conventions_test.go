@@ -116,6 +116,48 @@ func TestP11TextsAgree(t *testing.T) {
 	}
 }
 
+// A use is a call of a function of a chapter with arguments for all of them: it returns the memory of the result, and the result as a text.
+type use[T any] struct {
+	name string
+	call func(x T) ([]region, string)
+}
+
+// checkUnchanged fails the test if a call changes an argument, or what roomy puts into the spare capacity behind it. It checks also that the results are the same for the second time, and with other things in spare capacity.
+func checkUnchanged[T any](t *testing.T, uses []use[T], args []T, roomy func(T) T, dump func(T) string) {
+	t.Helper()
+	for _, plain := range args {
+		x := roomy(plain)
+		before := dump(x)
+		for _, use := range uses {
+			_, first := use.call(x)
+			_, second := use.call(x)
+			_, third := use.call(plain)
+			if after := dump(x); after != before {
+				t.Fatalf("%s changes an argument: %.500s becomes %.500s", use.name, before, after)
+			}
+			if first != second || first != third {
+				t.Errorf("%s gives %s, %s and %s", use.name, first, second, third)
+			}
+		}
+	}
+}
+
+// checkNew fails the test if two lists of a result share memory, or one does with an argument. It counts for each function the results that have memory and whose text ends with true.
+func checkNew[T any](t *testing.T, uses []use[T], args []T, roomy func(T) T, dump func(T) string, regions func(T) []region) map[string]int {
+	t.Helper()
+	results := map[string]int{}
+	for _, plain := range args {
+		x := roomy(plain)
+		label, arguments := dump(x), regions(x)
+		for _, use := range uses {
+			result, text := use.call(x)
+			mustBeNew(t, use.name+" of "+label[:min(len(label), 300)], result, arguments)
+			results[use.name] += truth(len(result) > 0 && strings.HasSuffix(text, "true"))
+		}
+	}
+	return results
+}
+
 func TestP11NilAndEmpty(t *testing.T) {
 	if impl.Join(nil, "x") != impl.Join([]string{}, "x") || impl.FormatInts(nil) != impl.FormatInts([]int{}) {
 		t.Error("a nil slice and an empty slice differ")

@@ -20,12 +20,6 @@ type machineArgs struct {
 	text, line string
 }
 
-// A machineUse is a call of a function of the machine: it returns the memory of the result, and the result as a text.
-type machineUse struct {
-	name string
-	call func(x machineArgs) ([]region, string)
-}
-
 func stateRegions(s impl.State) []region {
 	return slices.Concat(regionOf(s.Regs), regionOf(s.Mem), regionOf(s.Stack), regionOf(s.Out))
 }
@@ -42,8 +36,8 @@ func boolUse(is bool) ([]region, string) {
 	return nil, strconv.FormatBool(is)
 }
 
-func machineUses() []machineUse {
-	return []machineUse{
+func machineUses() []use[machineArgs] {
+	return []use[machineArgs]{
 		{"ProgramOk", func(x machineArgs) ([]region, string) { return boolUse(impl.ProgramOk(x.p)) }},
 		{"InputsOk", func(x machineArgs) ([]region, string) { return boolUse(impl.InputsOk(x.p, x.in)) }},
 		{"AllInputs", func(x machineArgs) ([]region, string) {
@@ -130,23 +124,8 @@ func dumpMachineArgs(x machineArgs) string {
 	return strings.Join([]string{dumpProgram(x.p), dumpState(x.s), dumpState(x.other), dumpInts(x.in)}, "; ")
 }
 
-// TestP11ArgumentsOfMachinesUnchanged checks also that the results are the same for the second time, and with other things in spare capacity.
 func TestP11ArgumentsOfMachinesUnchanged(t *testing.T) {
-	for _, plain := range someMachineArgs(800) {
-		x := roomyMachineArgs(plain)
-		before := dumpMachineArgs(x)
-		for _, use := range machineUses() {
-			_, first := use.call(x)
-			_, second := use.call(x)
-			_, third := use.call(plain)
-			if after := dumpMachineArgs(x); after != before {
-				t.Fatalf("%s changes an argument: %.500s becomes %.500s", use.name, before, after)
-			}
-			if first != second || first != third {
-				t.Errorf("%s gives %s, %s and %s", use.name, first, second, third)
-			}
-		}
-	}
+	checkUnchanged(t, machineUses(), someMachineArgs(800), roomyMachineArgs, dumpMachineArgs)
 }
 
 func TestP11MachinesAreNew(t *testing.T) {

@@ -18,18 +18,12 @@ type mergeArgs struct {
 	entry, fuel, most, k int
 }
 
-// A mergeUse is a call of one of these functions: it returns the memory of the result, and the result as a text.
-type mergeUse struct {
-	name string
-	call func(x mergeArgs) ([]region, string)
-}
-
 func termUseOf(u impl.Term, ok bool) ([]region, string) {
 	return regionsOf(u), textOf(u) + strconv.FormatBool(ok)
 }
 
-func mergeUses() []mergeUse {
-	return []mergeUse{
+func mergeUses() []use[mergeArgs] {
+	return []use[mergeArgs]{
 		{"MergePaths", func(x mergeArgs) ([]region, string) { return pathUseOf(impl.MergePaths(x.p, x.a, x.b)) }},
 		{"MergePaths of a path and itself", func(x mergeArgs) ([]region, string) { return pathUseOf(impl.MergePaths(x.p, x.a, x.a)) }},
 		{"ExploreMerged", func(x mergeArgs) ([]region, string) {
@@ -118,38 +112,12 @@ func mergeRegions(x mergeArgs) []region {
 	return l
 }
 
-// TestP11ArgumentsOfMergingUnchanged checks also that the results are the same for the second time, and with other things in spare capacity.
 func TestP11ArgumentsOfMergingUnchanged(t *testing.T) {
-	for _, plain := range someMergeArgs(500) {
-		x := roomyMergeArgs(plain)
-		before := dumpMergeArgs(x)
-		for _, use := range mergeUses() {
-			_, first := use.call(x)
-			_, second := use.call(x)
-			_, third := use.call(plain)
-			if after := dumpMergeArgs(x); after != before {
-				t.Fatalf("%s changes an argument: %.500s becomes %.500s", use.name, before, after)
-			}
-			if first != second || first != third {
-				t.Errorf("%s gives %s, %s and %s", use.name, first, second, third)
-			}
-		}
-	}
+	checkUnchanged(t, mergeUses(), someMergeArgs(500), roomyMergeArgs, dumpMergeArgs)
 }
 
 func TestP11MergedPathsAreNew(t *testing.T) {
-	results := map[string]int{}
-	for _, plain := range someMergeArgs(500) {
-		x := roomyMergeArgs(plain)
-		arguments := mergeRegions(x)
-		for _, use := range mergeUses() {
-			result, text := use.call(x)
-			mustBeNew(t, use.name+" of "+dumpProgram(x.p), result, arguments)
-			if strings.HasSuffix(text, "true") && len(result) > 0 {
-				results[use.name]++
-			}
-		}
-	}
+	results := checkNew(t, mergeUses(), someMergeArgs(500), roomyMergeArgs, dumpMergeArgs, mergeRegions)
 	for _, use := range mergeUses() {
 		if results[use.name] < 40 && use.name != "EndsFor" {
 			t.Errorf("%s has only %d results", use.name, results[use.name])

@@ -17,12 +17,6 @@ type pathArgs struct {
 	fuel, most, limit int
 }
 
-// A pathUse is a call of a function of paths: it returns the memory of the result, and the result as a text.
-type pathUse struct {
-	name string
-	call func(x pathArgs) ([]region, string)
-}
-
 func pathRegions(s impl.Path) []region {
 	l := slices.Concat(regionOf(s.Stack), regionOf(s.Turns))
 	for _, terms := range [][]impl.Term{s.Regs, s.Mem, s.Out, s.Cond} {
@@ -43,8 +37,8 @@ func pathsUseOf(paths []impl.Path, ok bool) ([]region, string) {
 	return l, textOfPaths(paths) + strconv.FormatBool(ok)
 }
 
-func pathUses() []pathUse {
-	return []pathUse{
+func pathUses() []use[pathArgs] {
+	return []use[pathArgs]{
 		{"PathOk", func(x pathArgs) ([]region, string) { return boolUse(impl.PathOk(x.p, x.s)) }},
 		{"StartPath", func(x pathArgs) ([]region, string) { return pathUseOf(impl.StartPath(x.p), true) }},
 		{"StepPath", func(x pathArgs) ([]region, string) { return pathsUseOf(impl.StepPath(x.p, x.s), true) }},
@@ -130,23 +124,8 @@ func dumpPathArgs(x pathArgs) string {
 	return strings.Join([]string{dumpProgram(x.p), dumpPath(x.s), dumpInts(x.in), dumpInts(x.turns)}, "; ")
 }
 
-// TestP11ArgumentsOfPathsUnchanged checks also that the results are the same for the second time, and with other things in spare capacity.
 func TestP11ArgumentsOfPathsUnchanged(t *testing.T) {
-	for _, plain := range somePathArgs(700) {
-		x := roomyPathArgs(plain)
-		before := dumpPathArgs(x)
-		for _, use := range pathUses() {
-			_, first := use.call(x)
-			_, second := use.call(x)
-			_, third := use.call(plain)
-			if after := dumpPathArgs(x); after != before {
-				t.Fatalf("%s changes an argument: %.500s becomes %.500s", use.name, before, after)
-			}
-			if first != second || first != third {
-				t.Errorf("%s gives %s, %s and %s", use.name, first, second, third)
-			}
-		}
-	}
+	checkUnchanged(t, pathUses(), somePathArgs(700), roomyPathArgs, dumpPathArgs)
 }
 
 func TestP11PathsAreNew(t *testing.T) {
