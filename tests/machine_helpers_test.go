@@ -105,20 +105,25 @@ func noState(s impl.State) bool {
 	return textOfState(s) == zeroState
 }
 
+func readInts(t *testing.T, s string) []int {
+	t.Helper()
+	var l []int
+	for _, text := range strings.Fields(s) {
+		n, err := strconv.Atoi(text)
+		if err != nil {
+			t.Fatal(err)
+		}
+		l = append(l, n)
+	}
+	return l
+}
+
 // readState returns the state of a text as textOfState writes it.
 func readState(t *testing.T, s string) impl.State {
 	t.Helper()
 	var l [][]int
 	for _, part := range strings.Split(s, "|") {
-		var numbers []int
-		for _, text := range strings.Fields(part) {
-			n, err := strconv.Atoi(text)
-			if err != nil {
-				t.Fatal(err)
-			}
-			numbers = append(numbers, n)
-		}
-		l = append(l, numbers)
+		l = append(l, readInts(t, part))
 	}
 	return impl.State{Pc: l[0][0], Regs: l[1], Mem: l[2], Stack: l[3], In: l[4][0], Out: l[5], Code: l[6][0], Steps: l[7][0]}
 }

@@ -59,7 +59,7 @@ func readPath(t *testing.T, s string) impl.Path {
 	state := readState(t, strings.Join([]string{parts[0], "", "", parts[3], parts[4], "", parts[6], parts[7]}, "|"))
 	return impl.Path{
 		Pc: state.Pc, Regs: readTerms(t, parts[1]), Mem: readTerms(t, parts[2]), Stack: state.Stack, In: state.In, Out: readTerms(t, parts[5]),
-		Code: state.Code, Steps: state.Steps, Cond: readTerms(t, parts[8]), Turns: readState(t, "0|"+parts[9]+"|||0||0|0").Regs,
+		Code: state.Code, Steps: state.Steps, Cond: readTerms(t, parts[8]), Turns: readInts(t, parts[9]),
 	}
 }
 
