@@ -2,9 +2,12 @@ package tests
 
 import (
 	"math"
+	"runtime"
 	"slices"
 	"strings"
+	"sync"
 	"testing"
+	"time"
 
 	"loop.example/g03219/impl"
 )
@@ -156,6 +159,59 @@ func checkNew[T any](t *testing.T, uses []use[T], args []T, roomy func(T) T, dum
 		}
 	}
 	return results
+}
+
+// checkSameAnswers asks with several numbers of processors, and several goroutines at the same time.
+func checkSameAnswers[T any](t *testing.T, uses []use[T], args []T) {
+	t.Helper()
+	answers := func() []string {
+		var l []string
+		for _, x := range args {
+			for _, use := range uses {
+				_, text := use.call(x)
+				l = append(l, text)
+			}
+		}
+		return l
+	}
+	want := answers()
+	defer runtime.GOMAXPROCS(runtime.GOMAXPROCS(0))
+	for _, processors := range []int{1, 2, 3, 16} {
+		runtime.GOMAXPROCS(processors)
+		if !slices.Equal(answers(), want) {
+			t.Errorf("with %d processors there are other answers", processors)
+		}
+	}
+	var callers sync.WaitGroup
+	for range 4 {
+		callers.Go(func() {
+			if !slices.Equal(answers(), want) {
+				t.Error("a caller among several gets other answers")
+			}
+		})
+	}
+	callers.Wait()
+}
+
+// checkNoneLeft checks that what a call has begun does not go on after it.
+func checkNoneLeft[T any](t *testing.T, uses []use[T], args []T) {
+	t.Helper()
+	before := runtime.NumGoroutine()
+	for range 5 {
+		for _, use := range uses {
+			for _, x := range args {
+				use.call(x)
+			}
+		}
+	}
+	for range 1000 {
+		if runtime.NumGoroutine() <= before {
+			return
+		}
+		// One that has done all its work may take a moment to go.
+		time.Sleep(time.Millisecond)
+	}
+	t.Errorf("there are %d goroutines, and %d were there before", runtime.NumGoroutine(), before)
 }
 
 func TestP11NilAndEmpty(t *testing.T) {

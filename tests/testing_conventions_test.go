@@ -2,13 +2,10 @@ package tests
 
 import (
 	"math"
-	"runtime"
 	"slices"
 	"strconv"
 	"strings"
-	"sync"
 	"testing"
-	"time"
 
 	"loop.example/g03219/impl"
 )
@@ -214,33 +211,7 @@ func TestP11NilAndEmptyOfTests(t *testing.T) {
 func TestP11SameAnswersOfTests(t *testing.T) {
 	args := someTestArgs(70)
 	args = append(args, testArgs{p: readProgram(t, levels10), q: readProgram(t, bits), in: []int{3}, tests: [][]int{{0}, {3}, {12}}, fuel: 60, most: 64, limit: 3000})
-	answers := func() []string {
-		var l []string
-		for _, x := range args {
-			for _, use := range testUses() {
-				_, text := use.call(x)
-				l = append(l, text)
-			}
-		}
-		return l
-	}
-	want := answers()
-	defer runtime.GOMAXPROCS(runtime.GOMAXPROCS(0))
-	for _, processors := range []int{1, 2, 3, 16} {
-		runtime.GOMAXPROCS(processors)
-		if !slices.Equal(answers(), want) {
-			t.Errorf("with %d processors there are other answers", processors)
-		}
-	}
-	var callers sync.WaitGroup
-	for range 4 {
-		callers.Go(func() {
-			if !slices.Equal(answers(), want) {
-				t.Error("a caller among several gets other answers")
-			}
-		})
-	}
-	callers.Wait()
+	checkSameAnswers(t, testUses(), args)
 }
 
 // TestP11NoGoroutinesLeft checks that what a call has begun does not go on after it.
@@ -249,22 +220,7 @@ func TestP11NoGoroutinesLeft(t *testing.T) {
 	tooSmall := x
 	tooSmall.most, tooSmall.limit = 15, 0
 	none := testArgs{p: readProgram(t, "2 1 0|halt"), q: readProgram(t, "2 1 0|halt"), fuel: 9, most: 1}
-	before := runtime.NumGoroutine()
-	for range 5 {
-		for _, use := range testUses() {
-			for _, x := range []testArgs{x, tooSmall, none} {
-				use.call(x)
-			}
-		}
-	}
-	for range 1000 {
-		if runtime.NumGoroutine() <= before {
-			return
-		}
-		// One that has done all its work may take a moment to go.
-		time.Sleep(time.Millisecond)
-	}
-	t.Errorf("there are %d goroutines, and %d were there before", runtime.NumGoroutine(), before)
+	checkNoneLeft(t, testUses(), []testArgs{x, tooSmall, none})
 }
 
 func TestP11NoPanicOfTests(t *testing.T) {
