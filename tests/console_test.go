@@ -243,6 +243,53 @@ func TestP10Paths(t *testing.T) {
 	}
 }
 
+// twoCounts counts two inputs down to 0, one after the other.
+func twoCounts(t *testing.T, w string) impl.Session {
+	return sessionOf(t, w+" 1 2|in r0|in r1|set r2 1|zero r0 6|sub r0 r2|jump 3|zero r1 9|sub r1 r2|jump 6|halt", 60, "1 2")
+}
+
+// TestP10LinesOfManyPaths has programs with just as many ends as there may be, and with more.
+func TestP10LinesOfManyPaths(t *testing.T) {
+	checkDialog(t, twoCounts(t, "3"), dialog{{"paths", "- 64 7"}})
+	checkDialog(t, twoCounts(t, "4"), dialog{{"paths", "- - 7"}, {"tests", "none"}, {"concolic 0 0", "none"}})
+	s := twoCounts(t, "3")
+	if _, out, _ := impl.RunLine(s, "tests"); len(readTests(t, out)) != 64 || !strings.HasPrefix(out, "0 0, 0 1, 0 2, ") || !strings.HasSuffix(out, ", 7 6, 7 7") {
+		t.Errorf("tests of 64 paths give %q", out)
+	}
+	after, out, _ := impl.RunLine(s, "concolic 0 0")
+	if out != "64" || len(after.Tests) != 64 || !impl.SessionOk(after) || textOfInts(after.Tests[0]) != "0 0" {
+		t.Errorf("concolic of 64 paths gives %q and %s", out, textOfSession(after))
+	}
+	checkDialog(t, sessionOf(t, sameProgram, 20, ""), dialog{{"facts 7", ""}, {"safe 7", "yes"}, {"paths", "64 2 1"}})
+	checkDialog(t, sessionOf(t, deepProgram, 20, ""), dialog{{"facts 7", ""}, {"safe 7", "yes"}, {"facts 8", "none"}, {"safe 8", "none"}})
+}
+
+// differenceOf is a program that outputs i0 - i1, and has 0 in r1 then; but this is not seen at once, as it is made of i0 - i1 and the negative of i1 - i0.
+func differenceOf(w int) string {
+	return strconv.Itoa(w) + " 1 2|in r0|in r1|move r2 r0|sub r2 r1|out r2|sub r1 r0|not r1|set r3 1|add r1 r3|xor r1 r2"
+}
+
+// TestP10LinesOfManySplits has terms for which about 1000 splits are made, and about 4000, which are too many.
+func TestP10LinesOfManySplits(t *testing.T) {
+	forks, checks := "|zero r1 12|halt|halt", "|set r3 0|eq r3 r1|check r3|halt"
+	checkDialog(t, sessionOf(t, differenceOf(5)+forks, 20, ""), dialog{{"paths", "2 1 2"}, {"tests", "0 0"}})
+	checkDialog(t, sessionOf(t, differenceOf(6)+forks, 20, ""), dialog{{"paths", "2 2 2"}, {"tests", "none"}, {"concolic 0 0", "none"}})
+	s := sessionOf(t, differenceOf(5)+forks, 20, "")
+	mustAnswer(t, s, "concolic 0 0", "1", shown(s.Program)+"; 20; 0 0")
+	checkDialog(t, sessionOf(t, differenceOf(5)+checks, 20, ""), dialog{{"safe 13", "yes"}})
+	checkDialog(t, sessionOf(t, differenceOf(6)+checks, 20, ""), dialog{{"safe 13", "no"}})
+	for w, want := range map[int]string{5: "r1 is 0, ", 6: "r3 is 1, "} {
+		s := sessionOf(t, differenceOf(w)+"|halt", 20, "1 2, 3 1, 0 0")
+		if _, out, _ := impl.RunLine(s, "facts 10"); !strings.HasPrefix(out, want) {
+			t.Errorf("facts of words of %d bits are %q", w, out)
+		}
+	}
+	for w, want := range map[int]string{5: "same", 6: "open"} {
+		width := strconv.Itoa(w)
+		checkDialog(t, sessionOf(t, width+" 1 2|in r0|in r1|sub r0 r1|out r0|halt", 20, ""), dialog{{"differ machine " + width + " 1 2|in r0|in r1|sub r1 r0|not r1|set r3 1|add r1 r3|out r1|halt|", want}})
+	}
+}
+
 func TestP10Tests(t *testing.T) {
 	checkDialog(t, sessionOf(t, sumProgram, 20, "1"), dialog{{"tests", "5, 0"}})
 	checkDialog(t, sessionOf(t, sumProgram, 3, ""), dialog{{"tests", "0"}})
@@ -272,20 +319,6 @@ func TestP10Concolic(t *testing.T) {
 	checkDialog(t, sessionOf(t, sumProgram, 20, "1, 2"), dialog{{"concolic", "none"}, {"concolic ", "none"}, {"concolic 8", "none"}, {"concolic -1", "none"}, {"concolic 4 4", "none"}, {"concolic x", "none"}, {"concolic 04", "none"}, {"concolic  4", "none"}, {" concolic 4", "none"}, {"concolic 4 ", "none"}})
 	// It is not found out whether there is another path.
 	checkDialog(t, sessionOf(t, cubeProgram, 20, "1 2"), dialog{{"concolic 1 2", "none"}})
-}
-
-// TestP10ConcolicMany has just as many paths as there may be tests, and one more.
-func TestP10ConcolicMany(t *testing.T) {
-	for _, c := range []struct{ w, want string }{{"3", "64"}, {"4", "none"}} {
-		// It counts two inputs down to 0, one after the other.
-		s := sessionOf(t, c.w+" 1 2|in r0|in r1|set r2 1|zero r0 6|sub r0 r2|jump 3|zero r1 9|sub r1 r2|jump 6|halt", 60, "1 2")
-		after, out, _ := impl.RunLine(s, "concolic 0 0")
-		if c.want == "none" {
-			mustAnswer(t, s, "concolic 0 0", "none", textOfSession(s))
-		} else if out != c.want || len(after.Tests) != 64 || !impl.SessionOk(after) || textOfInts(after.Tests[0]) != "0 0" {
-			t.Errorf("RunLine of concolic gives %q and %s", out, textOfSession(after))
-		}
-	}
 }
 
 func TestP10CoverSmallestScore(t *testing.T) {
